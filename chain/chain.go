@@ -5,6 +5,7 @@ import (
 	"slices"
 
 	"prow/api"
+	"prow/reckon"
 )
 
 // Check checks a book.
@@ -108,12 +109,6 @@ func Wrong(b api.ChainBook) ([]int, api.Errno) {
 		return nil, e
 	}
 	l := lay(b)
-	for size := range len(l.Surveys) + 1 {
-		for list := range lists(len(l.Surveys), size) {
-			if l.without(list).possible() {
-				return list, api.OK
-			}
-		}
-	}
-	return nil, api.OK
+	list, _ := reckon.Fewest(len(l.Surveys), func(wrong []int) bool { return l.without(wrong).possible() })
+	return list, api.OK
 }

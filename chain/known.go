@@ -4,6 +4,7 @@ import (
 	"slices"
 
 	"prow/api"
+	"prow/reckon"
 )
 
 // end is an end of what is known of a number: which one of a span it is, and which one of all numbers.
@@ -56,7 +57,7 @@ type asked struct {
 
 // right reports whether the survey can be right, if the places wear as in this truth.
 func (a asked) right(t truth) bool {
-	return !isEmpty(meet(t.first[a.survey.Section], a.read(a.survey, t.wear)))
+	return !reckon.IsEmpty(reckon.Meet(t.first[a.survey.Section], a.read(a.survey, t.wear)))
 }
 
 // What is said of a section that is too thin.
@@ -90,7 +91,7 @@ func (l ledger) soonest() int {
 	for section := range l.Sections {
 		days = append(days, l.first(mayBe, section))
 	}
-	return least(l.Days+1, days...)
+	return reckon.Least(l.Days+1, days...)
 }
 
 // thinOn returns all sections that may be too thin on a day.

@@ -5,6 +5,7 @@ import (
 	"slices"
 
 	"prow/api"
+	"prow/reckon"
 )
 
 // places has a number for each place: how much it wears in a day, or on how many days a section lay in it.
@@ -111,7 +112,7 @@ func (l ledger) produce() iter.Seq[truth] {
 				t.wear[place] = wear.Low + more
 				for _, section := range l.settled(place) {
 					t.first[section] = l.surveyed(section, t.wear)
-					if isEmpty(t.first[section]) {
+					if reckon.IsEmpty(t.first[section]) {
 						continue next
 					}
 				}
@@ -139,7 +140,7 @@ func (l ledger) surveyed(section int, wear places) api.Span {
 	first := l.Sections[section].Thick
 	for _, s := range l.Surveys {
 		if s.Section == section {
-			first = meet(first, l.read(s, wear))
+			first = reckon.Meet(first, l.read(s, wear))
 		}
 	}
 	return first
@@ -151,12 +152,6 @@ func (l ledger) read(s api.ChainSurvey, wear places) api.Span {
 	return api.Span{Low: then - s.Error, High: then + s.Error}
 }
 
-func meet(a, b api.Span) api.Span {
-	return api.Span{Low: max(a.Low, b.Low), High: min(a.High, b.High)}
-}
-
-func isEmpty(s api.Span) bool { return s.Low > s.High }
-
 func (l ledger) possible() bool {
 	for range l.produce() {
 		return true
@@ -166,13 +161,7 @@ func (l ledger) possible() bool {
 
 // without returns the ledger without some of its surveys.
 func (l ledger) without(list []int) ledger {
-	var kept []api.ChainSurvey
-	for i, s := range l.Surveys {
-		if !slices.Contains(list, i) {
-			kept = append(kept, s)
-		}
-	}
-	l.Surveys = kept[:len(kept):len(kept)]
+	l.Surveys = reckon.Without(l.Surveys, list)
 	return l
 }
 

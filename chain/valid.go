@@ -1,11 +1,9 @@
 package chain
 
-import "prow/api"
-
-// bound is a number, and between which two others it must lie.
-type bound struct{ number, low, high int }
-
-func (x bound) holds() bool { return x.low <= x.number && x.number <= x.high }
+import (
+	"prow/api"
+	"prow/reckon"
+)
 
 func valid(b api.ChainBook) bool {
 	return sized(b) && allSections(b) && lastsAll(b) && allTurns(b) && allSurveys(b)
@@ -13,32 +11,24 @@ func valid(b api.ChainBook) bool {
 
 // sized comes first: all that is calculated with these numbers afterwards is small.
 func sized(b api.ChainBook) bool {
-	for _, x := range [...]bound{
-		{len(b.Sections), 1, api.ChainSections},
-		{b.Days, 1, api.ChainDays},
-		{b.Rule, 0, api.ChainThick},
-		{len(b.Turns), 0, api.ChainTurns},
-		{len(b.Surveys), 0, api.ChainSurveys},
-	} {
-		if !x.holds() {
-			return false
-		}
-	}
-	return true
+	return reckon.Hold([]reckon.Bound{
+		{Number: len(b.Sections), Low: 1, High: api.ChainSections},
+		{Number: b.Days, Low: 1, High: api.ChainDays},
+		{Number: b.Rule, Low: 0, High: api.ChainThick},
+		{Number: len(b.Turns), Low: 0, High: api.ChainTurns},
+		{Number: len(b.Surveys), Low: 0, High: api.ChainSurveys},
+	})
 }
 
 func allSections(b api.ChainBook) bool {
 	for _, s := range b.Sections {
-		if !isSpan(s.Thick, api.ChainThick, api.ChainWide) || !isSpan(s.Wear, api.ChainWear, api.ChainLoose) {
+		thick := reckon.IsKnown(s.Thick, api.Span{Low: 0, High: api.ChainThick}, api.ChainWide)
+		wear := reckon.IsKnown(s.Wear, api.Span{Low: 0, High: api.ChainWear}, api.ChainLoose)
+		if !thick || !wear {
 			return false
 		}
 	}
 	return true
-}
-
-// isSpan reports whether a span lies between 0 and high, and its two ends are no more than wide apart.
-func isSpan(s api.Span, high, wide int) bool {
-	return 0 <= s.Low && s.Low <= s.High && s.High <= high && s.High-s.Low <= wide
 }
 
 // lastsAll reports whether no section is ever thinner than 0, wherever it lies.
@@ -76,7 +66,10 @@ func allSurveys(b api.ChainBook) bool {
 }
 
 func isSurvey(b api.ChainBook, s api.ChainSurvey) bool {
-	return isSection(b, s.Section) && isDay(b, s.Day) && bound{s.Read, 0, api.ChainThick}.holds() && bound{s.Error, 0, api.ChainError}.holds()
+	return isSection(b, s.Section) && isDay(b, s.Day) && reckon.Hold([]reckon.Bound{
+		{Number: s.Read, Low: 0, High: api.ChainThick},
+		{Number: s.Error, Low: 0, High: api.ChainError},
+	})
 }
 
 // isSection is asked for places, too: they have the same numbers.

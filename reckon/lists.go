@@ -1,0 +1,68 @@
+package reckon
+
+import (
+	"cmp"
+	"iter"
+	"slices"
+)
+
+// Least returns the least of several numbers.
+func Least[N cmp.Ordered](first N, more ...N) N {
+	for _, n := range more {
+		first = min(first, n)
+	}
+	return first
+}
+
+// Greatest returns the greatest of several numbers.
+func Greatest[N cmp.Ordered](first N, more ...N) N {
+	for _, n := range more {
+		first = max(first, n)
+	}
+	return first
+}
+
+// Fewest returns the fewest numbers below n that are enough; of several such lists (each strictly increasing) the first one. It reports whether there are any.
+func Fewest(n int, enough func(list []int) bool) ([]int, bool) {
+	for size := range n + 1 {
+		for list := range lists(n, size) {
+			if enough(list) {
+				return list, true
+			}
+		}
+	}
+	return nil, false
+}
+
+// lists produces all strictly increasing lists of so many numbers below n, in their order. Each is overwritten by the next one.
+func lists(n, size int) iter.Seq[[]int] {
+	return func(yield func([]int) bool) {
+		list := make([]int, 0, size)
+		var add func(from int) bool
+		add = func(from int) bool {
+			if len(list) == size {
+				return yield(list[:size:size])
+			}
+			for more := range n - from {
+				list = append(list, from+more)
+				if !add(from + more + 1) {
+					return false
+				}
+				list = list[:len(list)-1]
+			}
+			return true
+		}
+		add(0)
+	}
+}
+
+// Without returns all but those whose numbers a list has.
+func Without[T any](all []T, list []int) []T {
+	var kept []T
+	for i, x := range all {
+		if !slices.Contains(list, i) {
+			kept = append(kept, x)
+		}
+	}
+	return kept[:len(kept):len(kept)]
+}

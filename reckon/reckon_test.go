@@ -1,0 +1,128 @@
+package reckon_test
+
+import (
+	"math"
+	"slices"
+	"testing"
+
+	"prow/api"
+	"prow/reckon"
+)
+
+func to(low, high int) api.Span { return api.Span{Low: low, High: high} }
+
+func TestHold(t *testing.T) {
+	good := []reckon.Bound{{Number: 1, Low: 1, High: 3}, {Number: 3, Low: 1, High: 3}, {Number: 0, Low: 0, High: 0}}
+	if !reckon.Hold(nil) || !reckon.Hold(good) {
+		t.Error("bounds that hold do not")
+	}
+	for _, n := range []int{math.MinInt, 0, 4, math.MaxInt} {
+		if reckon.Hold(append(good[:3:3], reckon.Bound{Number: n, Low: 1, High: 3})) {
+			t.Errorf("%d is from 1 to 3", n)
+		}
+	}
+}
+
+func TestMeetAndJoin(t *testing.T) {
+	for i, x := range []struct{ a, b, meet, join api.Span }{
+		{to(1, 5), to(3, 8), to(3, 5), to(1, 8)}, {to(1, 5), to(2, 3), to(2, 3), to(1, 5)}, {to(1, 2), to(2, 2), to(2, 2), to(1, 2)},
+		{to(1, 2), to(4, 5), reckon.Nothing(), to(1, 5)}, {to(-9, -7), reckon.Nothing(), reckon.Nothing(), to(-9, -7)}, {reckon.Nothing(), reckon.Nothing(), reckon.Nothing(), reckon.Nothing()},
+	} {
+		for _, y := range []struct{ a, b api.Span }{{x.a, x.b}, {x.b, x.a}} {
+			meet, join := reckon.Meet(y.a, y.b), reckon.Join(y.a, y.b)
+			if meet != x.meet && !(reckon.IsEmpty(meet) && reckon.IsEmpty(x.meet)) || join != x.join {
+				t.Errorf("%d: %v, %v", i, meet, join)
+			}
+		}
+	}
+}
+
+func TestIsKnown(t *testing.T) {
+	for i, x := range []struct {
+		s    api.Span
+		want bool
+	}{
+		{to(0, 0), true}, {to(0, 4), true}, {to(6, 10), true}, {to(10, 10), true}, {reckon.Just(7), true},
+		{to(0, 5), false}, {to(-1, 0), false}, {to(10, 11), false}, {to(3, 2), false}, {reckon.Nothing(), false},
+		{to(math.MinInt, math.MaxInt), false}, {to(math.MaxInt, math.MinInt), false},
+	} {
+		if is := reckon.IsKnown(x.s, to(0, 10), 4); is != x.want {
+			t.Errorf("%d: %v", i, is)
+		}
+	}
+}
+
+func TestNumbers(t *testing.T) {
+	for i, x := range []struct {
+		s    api.Span
+		want []int
+	}{{to(-1, 2), []int{-1, 0, 1, 2}}, {reckon.Just(5), []int{5}}, {reckon.Nothing(), nil}} {
+		if l := slices.Collect(reckon.Numbers(x.s)); !slices.Equal(l, x.want) {
+			t.Errorf("%d: %v", i, l)
+		}
+	}
+	for n := range reckon.Numbers(to(3, 9)) {
+		if n != 3 {
+			t.Errorf("%d behind the end", n)
+		}
+		break
+	}
+}
+
+func TestLeastAndGreatest(t *testing.T) {
+	if reckon.Least(3) != 3 || reckon.Least(3, 1, 2) != 1 || reckon.Greatest(-3) != -3 || reckon.Greatest("b", "c", "a") != "c" {
+		t.Error("the least or the greatest is another one")
+	}
+}
+
+func TestFewest(t *testing.T) {
+	for i, x := range []struct {
+		n, enough int // how many there are, and what those of the list must be together
+		want      []int
+		found     bool
+	}{
+		{4, 0, nil, true}, {4, 3, []int{3}, true}, {4, 4, []int{1, 3}, true}, {4, 5, []int{2, 3}, true}, {4, 6, []int{1, 2, 3}, true}, {4, 7, nil, false}, {0, 1, nil, false}, {0, 0, nil, true},
+	} {
+		list, found := reckon.Fewest(x.n, func(list []int) bool {
+			sum := 0
+			for _, n := range list {
+				sum += n
+			}
+			return sum == x.enough
+		})
+		if !slices.Equal(list, x.want) || found != x.found {
+			t.Errorf("%d: %v, %v", i, list, found)
+		}
+	}
+}
+
+func TestFewestAsksInOrder(t *testing.T) {
+	var asked [][]int
+	reckon.Fewest(3, func(list []int) bool {
+		asked = append(asked, slices.Clone(list))
+		return false
+	})
+	want := [][]int{{}, {0}, {1}, {2}, {0, 1}, {0, 2}, {1, 2}, {0, 1, 2}}
+	if !slices.EqualFunc(asked, want, slices.Equal[[]int]) {
+		t.Errorf("%v", asked)
+	}
+}
+
+func TestWithout(t *testing.T) {
+	all := []string{"a", "b", "c"}
+	for i, x := range []struct {
+		list []int
+		want []string
+	}{{nil, all}, {[]int{1}, []string{"a", "c"}}, {[]int{0, 2}, []string{"b"}}, {[]int{0, 1, 2}, nil}} {
+		l := reckon.Without(all, x.list)
+		if !slices.Equal(l, x.want) || cap(l) != len(l) {
+			t.Errorf("%d: %v", i, l)
+		}
+		if len(l) > 0 {
+			l[0] = "z"
+		}
+		if all[0] != "a" || all[1] != "b" {
+			t.Errorf("%d: the argument was changed: %v", i, all)
+		}
+	}
+}
