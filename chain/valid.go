@@ -46,14 +46,7 @@ func lastsAll(b api.ChainBook) bool {
 }
 
 func allTurns(b api.ChainBook) bool {
-	before := 0
-	for _, day := range b.Turns {
-		if day <= before || day > b.Days {
-			return false
-		}
-		before = day
-	}
-	return true
+	return reckon.Increase(b.Turns, api.Span{Low: 1, High: b.Days})
 }
 
 func allSurveys(b api.ChainBook) bool {

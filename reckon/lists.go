@@ -4,6 +4,8 @@ import (
 	"cmp"
 	"iter"
 	"slices"
+
+	"prow/api"
 )
 
 // Least returns the least of several numbers.
@@ -24,17 +26,28 @@ func Greatest[N cmp.Ordered](first N, more ...N) N {
 
 // Fewest returns the fewest numbers below n that are enough; of several such lists (each strictly increasing) the first one. It reports whether there are any.
 func Fewest(n int, enough func(list []int) bool) ([]int, bool) {
-	for size := range n + 1 {
-		for list := range lists(n, size) {
-			if enough(list) {
-				return list, true
-			}
+	for list := range Lists(n) {
+		if enough(list) {
+			return list, true
 		}
 	}
 	return nil, false
 }
 
-// lists produces all strictly increasing lists of so many numbers below n, in their order. Each is overwritten by the next one.
+// Lists produces all strictly increasing lists of numbers below n: the shorter ones first, of each length in their order. Each is overwritten by the next one.
+func Lists(n int) iter.Seq[[]int] {
+	return func(yield func([]int) bool) {
+		for size := range n + 1 {
+			for list := range lists(n, size) {
+				if !yield(list) {
+					return
+				}
+			}
+		}
+	}
+}
+
+// lists produces those of one length.
 func lists(n, size int) iter.Seq[[]int] {
 	return func(yield func([]int) bool) {
 		list := make([]int, 0, size)
@@ -54,6 +67,16 @@ func lists(n, size int) iter.Seq[[]int] {
 		}
 		add(0)
 	}
+}
+
+// Increase reports whether a list is strictly increasing, of numbers of a span alone.
+func Increase(list []int, all api.Span) bool {
+	for i, n := range list {
+		if !Inside(Just(n), all) || i > 0 && n <= list[i-1] {
+			return false
+		}
+	}
+	return true
 }
 
 // Without returns all but those whose numbers a list has.

@@ -96,15 +96,43 @@ func TestFewest(t *testing.T) {
 	}
 }
 
-func TestFewestAsksInOrder(t *testing.T) {
-	var asked [][]int
-	reckon.Fewest(3, func(list []int) bool {
-		asked = append(asked, slices.Clone(list))
-		return false
-	})
-	want := [][]int{{}, {0}, {1}, {2}, {0, 1}, {0, 2}, {1, 2}, {0, 1, 2}}
-	if !slices.EqualFunc(asked, want, slices.Equal[[]int]) {
-		t.Errorf("%v", asked)
+func TestLists(t *testing.T) {
+	for i, x := range []struct {
+		n    int
+		want [][]int
+	}{{0, [][]int{{}}}, {1, [][]int{{}, {0}}}, {3, [][]int{{}, {0}, {1}, {2}, {0, 1}, {0, 2}, {1, 2}, {0, 1, 2}}}} {
+		var all [][]int
+		for l := range reckon.Lists(x.n) {
+			all = append(all, slices.Clone(l))
+		}
+		if !slices.EqualFunc(all, x.want, slices.Equal[[]int]) {
+			t.Errorf("%d: %v", i, all)
+		}
+	}
+	for l := range reckon.Lists(3) {
+		if len(l) > 1 {
+			t.Errorf("%v behind the end", l)
+		}
+		if slices.Equal(l, []int{1}) {
+			break
+		}
+	}
+}
+
+func TestIncrease(t *testing.T) {
+	for i, x := range []struct {
+		list []int
+		want bool
+	}{
+		{nil, true}, {[]int{1}, true}, {[]int{4}, true}, {[]int{1, 2, 3, 4}, true}, {[]int{1, 4}, true},
+		{[]int{0}, false}, {[]int{5}, false}, {[]int{1, 5}, false}, {[]int{2, 2}, false}, {[]int{3, 2}, false}, {[]int{1, 3, 2}, false}, {[]int{math.MinInt, 2}, false}, {[]int{1, math.MaxInt}, false},
+	} {
+		if is := reckon.Increase(x.list, to(1, 4)); is != x.want {
+			t.Errorf("%d: %v", i, is)
+		}
+	}
+	if reckon.Increase([]int{0}, reckon.Nothing()) || !reckon.Increase(nil, reckon.Nothing()) {
+		t.Error("of no numbers")
 	}
 }
 
