@@ -52,7 +52,7 @@ func lay(b api.DeckBook) ledger {
 	l := ledger{DeckBook: b, pulls: map[api.DeckPlace]api.Span{}}
 	for load, x := range b.Loads {
 		for lane, pull := range pulls() {
-			if x.Lanes>>lane&1 == 1 {
+			if reckon.Has(x.Lanes, lane) {
 				l.pulls[api.DeckPlace{Load: load, Lane: lane}] = pull(wagon{x})
 			}
 		}

@@ -5,13 +5,6 @@ import (
 	"prow/reckon"
 )
 
-// end is an end of what is known of a number.
-type end struct{ of func(s api.Span) int }
-
-func low() end { return end{of: func(s api.Span) int { return s.Low }} }
-
-func high() end { return end{of: func(s api.Span) int { return s.High }} }
-
 // height returns how high the water of an hour can be, in all truths.
 func (l ledger) height(hour int) api.Span {
 	all := reckon.Nothing()
@@ -28,9 +21,9 @@ type arrival struct {
 }
 
 // window returns between which heights of the water the deck lands in a truth, if the empty deck lies as deep as an end of what is known of it.
-func (l ledger) window(t truth, a arrival, e end) api.Span {
+func (l ledger) window(t truth, a arrival, e reckon.End) api.Span {
 	shore := l.Shores[a.shore]
-	floats := t[a.shore] + e.of(l.Empty) + l.sunk(a.load) + l.Under
+	floats := t[a.shore] + e.Of(l.Empty) + l.sunk(a.load) + l.Under
 	return api.Span{Low: reckon.Greatest(shore.Low, floats), High: shore.High}
 }
 
@@ -45,7 +38,7 @@ const (
 
 func (l ledger) landsAtWorst(a arrival) bool {
 	for _, t := range l.truths {
-		if !reckon.Inside(l.water(t, a.hour), l.window(t, a, high())) {
+		if !reckon.Inside(l.water(t, a.hour), l.window(t, a, reckon.High())) {
 			return false
 		}
 	}
@@ -54,7 +47,7 @@ func (l ledger) landsAtWorst(a arrival) bool {
 
 func (l ledger) landsAtBest(a arrival) bool {
 	for _, t := range l.truths {
-		if !reckon.IsEmpty(reckon.Meet(l.water(t, a.hour), l.window(t, a, low()))) {
+		if !reckon.IsEmpty(reckon.Meet(l.water(t, a.hour), l.window(t, a, reckon.Low()))) {
 			return true
 		}
 	}

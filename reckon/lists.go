@@ -24,6 +24,15 @@ func Greatest[N cmp.Ordered](first N, more ...N) N {
 	return first
 }
 
+// Sum returns the sum of several numbers.
+func Sum[N ~int](numbers ...N) N {
+	var sum N
+	for _, n := range numbers {
+		sum += n
+	}
+	return sum
+}
+
 // Fewest returns the fewest numbers below n that are enough; of several such lists (each strictly increasing) the first one. It reports whether there are any.
 func Fewest(n int, enough func(list []int) bool) ([]int, bool) {
 	for list := range Lists(n) {

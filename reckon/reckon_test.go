@@ -69,9 +69,39 @@ func TestNumbers(t *testing.T) {
 	}
 }
 
+func TestEnds(t *testing.T) {
+	for i, s := range []api.Span{to(-1, 2), to(3, 9), reckon.Just(5)} {
+		if low, high := reckon.Low().Of(s), reckon.High().Of(s); to(low, high) != s {
+			t.Errorf("%d: %d, %d", i, low, high)
+		}
+	}
+}
+
 func TestLeastAndGreatest(t *testing.T) {
 	if reckon.Least(3) != 3 || reckon.Least(3, 1, 2) != 1 || reckon.Greatest(-3) != -3 || reckon.Greatest("b", "c", "a") != "c" {
 		t.Error("the least or the greatest is another one")
+	}
+}
+
+func TestSum(t *testing.T) {
+	type feet int
+	if reckon.Sum[int]() != 0 || reckon.Sum(-3) != -3 || reckon.Sum(3, 1, -2, 5) != 7 || reckon.Sum([]feet{1, 2, 3}...) != 6 {
+		t.Error("the sum is another one")
+	}
+}
+
+func TestSets(t *testing.T) {
+	for set, members := range [][]int{{}, {0}, {1}, {0, 1}, {2}, {0, 2}, {1, 2}, {0, 1, 2}} {
+		for n := range 70 {
+			if has := reckon.Has(set, n); has != slices.Contains(members, n) {
+				t.Errorf("Has %d, %d: %v", set, n, has)
+			}
+		}
+	}
+	for n, want := range []int{0, 1, 3, 7, 15} {
+		if set := reckon.Full(n); set != want {
+			t.Errorf("Full %d: %d", n, set)
+		}
 	}
 }
 

@@ -50,3 +50,12 @@ func Numbers(s api.Span) iter.Seq[int] {
 		}
 	}
 }
+
+// End is an end of what is known of a number.
+type End struct{ Of func(s api.Span) int }
+
+// Low returns the lower end.
+func Low() End { return End{Of: func(s api.Span) int { return s.Low }} }
+
+// High returns the upper end.
+func High() End { return End{Of: func(s api.Span) int { return s.High }} }

@@ -40,10 +40,7 @@ func (t truth) fits(room int) bool {
 }
 
 func (t truth) isWrong(c api.TallyCount) bool {
-	sum := 0
-	for _, crossed := range t[c.From : c.To+1] {
-		sum += crossed
-	}
+	sum := reckon.Sum(t[c.From : c.To+1]...)
 	return !reckon.Inside(reckon.Just(sum), record{c}.tells())
 }
 
