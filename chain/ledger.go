@@ -56,22 +56,6 @@ func study(b api.ChainBook, proper bool) (ledger, api.Errno) {
 	return l, api.OK
 }
 
-// across returns the place with which a place changes when the chain is turned.
-func (l ledger) across(place int) int { return len(l.Sections) - 1 - place }
-
-func (l ledger) place(at spot) int {
-	turned := false
-	for _, day := range l.Turns {
-		if day <= at.day {
-			turned = !turned
-		}
-	}
-	if turned {
-		return l.across(at.section)
-	}
-	return at.section
-}
-
 func (l ledger) allLain() map[spot]places {
 	all := map[spot]places{}
 	for section := range l.Sections {
@@ -79,7 +63,7 @@ func (l ledger) allLain() map[spot]places {
 		for day := range l.Days + 1 {
 			at := spot{section, day}
 			all[at] = lain
-			lain[l.place(at)]++
+			lain[reckon.Place(l.ChainBook, section, day)]++
 		}
 	}
 	return all
@@ -128,7 +112,7 @@ func (l ledger) produce() iter.Seq[truth] {
 
 // settled returns the sections that can lie in this place, and in no later one.
 func (l ledger) settled(place int) []int {
-	other := l.across(place)
+	other := reckon.Across(l.ChainBook, place)
 	if other > place {
 		return nil
 	}
@@ -180,9 +164,7 @@ func (l ledger) canTurn(day int) bool {
 
 // turned returns the ledger, with the same truths, of the chain that is turned once more.
 func (l ledger) turned(day int) ledger {
-	n := len(l.Turns)
-	l.Turns = append(l.Turns[:n:n], day) // the third index keeps the argument's memory as it is
-	slices.Sort(l.Turns)
+	l.Turns = reckon.With(l.Turns, day)
 	l.lain = l.allLain()
 	return l
 }

@@ -88,6 +88,14 @@ func Increase(list []int, all api.Span) bool {
 	return true
 }
 
+// With returns an increasing list with one number more.
+func With(list []int, n int) []int {
+	end := len(list)
+	longer := append(list[:end:end], n) // the third index keeps the argument's memory as it is
+	slices.Sort(longer)
+	return longer[:len(longer):len(longer)]
+}
+
 // Without returns all but those whose numbers a list has.
 func Without[T any](all []T, list []int) []T {
 	var kept []T

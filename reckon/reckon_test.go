@@ -166,6 +166,24 @@ func TestIncrease(t *testing.T) {
 	}
 }
 
+func TestWith(t *testing.T) {
+	all := []int{2, 5, 9, 77}
+	for i, x := range []struct {
+		list []int
+		n    int
+		want []int
+	}{{nil, 3, []int{3}}, {all[:3], 1, []int{1, 2, 5, 9}}, {all[:3], 7, []int{2, 5, 7, 9}}, {all[:3], 12, []int{2, 5, 9, 12}}, {all[:1], 0, []int{0, 2}}} {
+		l := reckon.With(x.list, x.n)
+		if !slices.Equal(l, x.want) || cap(l) != len(l) {
+			t.Errorf("%d: %v", i, l)
+		}
+		l[0] = -1
+		if !slices.Equal(all, []int{2, 5, 9, 77}) {
+			t.Errorf("%d: the argument was changed: %v", i, all)
+		}
+	}
+}
+
 func TestWithout(t *testing.T) {
 	all := []string{"a", "b", "c"}
 	for i, x := range []struct {
@@ -181,6 +199,29 @@ func TestWithout(t *testing.T) {
 		}
 		if all[0] != "a" || all[1] != "b" {
 			t.Errorf("%d: the argument was changed: %v", i, all)
+		}
+	}
+}
+
+func TestPlace(t *testing.T) {
+	for i, x := range []struct {
+		sections int
+		turns    []int
+		want     [][]int // by sections, and days
+	}{
+		{1, []int{1}, [][]int{{0, 0, 0}}}, {2, nil, [][]int{{0, 0, 0}, {1, 1, 1}}}, {2, []int{1}, [][]int{{0, 1, 1}, {1, 0, 0}}}, {2, []int{1, 2}, [][]int{{0, 1, 0}, {1, 0, 1}}},
+		{3, []int{2}, [][]int{{0, 0, 2}, {1, 1, 1}, {2, 2, 0}}}, {4, []int{1, 3}, [][]int{{0, 3, 3, 0}, {1, 2, 2, 1}, {2, 1, 1, 2}, {3, 0, 0, 3}}},
+	} {
+		b := api.ChainBook{Sections: make([]api.ChainSection, x.sections), Turns: x.turns}
+		for section, days := range x.want {
+			for day, want := range days {
+				if n := reckon.Place(b, section, day); n != want {
+					t.Errorf("Place %d of %d on %d: %d", i, section, day, n)
+				}
+			}
+			if n := reckon.Across(b, section); n != x.sections-1-section {
+				t.Errorf("Across %d of %d: %d", i, section, n)
+			}
 		}
 	}
 }
