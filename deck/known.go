@@ -70,7 +70,7 @@ func (l ledger) crossing() [api.DeckLoads]bool {
 
 // most returns the most loads that can cross together: there are some, since none at all can.
 func (l ledger) most() []int {
-	list, _ := longest().of(reckon.Lists(len(l.Loads)), l.together)
+	list, _ := longest().Of(reckon.Lists(len(l.Loads)), l.together)
 	return list
 }
 

@@ -8,31 +8,14 @@ import (
 	"prow/reckon"
 )
 
-// choice is the best of several lists.
-type choice struct {
-	better func(a, b []int) bool // whether a is better than b
-}
-
 // longest chooses the longest list; of several ones the first one.
-func longest() choice {
-	return choice{better: func(a, b []int) bool { return cmp.Or(len(b)-len(a), slices.Compare(a, b)) < 0 }}
+func longest() reckon.Choice[[]int] {
+	return reckon.Choice[[]int]{Better: func(a, b []int) bool { return cmp.Or(len(b)-len(a), slices.Compare(a, b)) < 0 }}
 }
 
 // fewest chooses the list with the fewest crossings; of several ones the first one.
-func fewest() choice {
-	return choice{better: func(a, b []int) bool { return cmp.Or(crossings(a)-crossings(b), slices.Compare(a, b)) < 0 }}
-}
-
-// of returns the best of those lists that can be, and reports whether there is one.
-func (c choice) of(lists iter.Seq[[]int], can func(list []int) bool) ([]int, bool) {
-	var best []int
-	found := false
-	for list := range lists {
-		if (!found || c.better(list, best)) && can(list) {
-			best, found = slices.Clone(list), true
-		}
-	}
-	return best[:len(best):len(best)], found
+func fewest() reckon.Choice[[]int] {
+	return reckon.Choice[[]int]{Better: func(a, b []int) bool { return cmp.Or(crossings(a)-crossings(b), slices.Compare(a, b)) < 0 }}
 }
 
 // crossings returns how many crossings there are, if a list has for each load the number of its own one.
@@ -46,7 +29,7 @@ func shares(n int) iter.Seq[[]int] {
 		var share func() bool
 		share = func() bool {
 			if len(list) == n {
-				return yield(list[:n:n])
+				return yield(slices.Clone(list)[:n:n])
 			}
 			for crossing := range crossings(list) + 1 {
 				list = append(list, crossing)

@@ -99,22 +99,13 @@ func (l ledger) wants(plan []api.ForgeWork) []int {
 // need returns how many feet there must be in stock at first, so that it falls short at no work.
 func (l ledger) need(days sets) int { return reckon.Greatest(0, l.wants(l.works(days))...) }
 
-// choice tells which of two plans is the better one.
-type choice struct {
-	better func(a, b sets) bool
+// best returns the best good plan, by which of two is the better one; false, if there is none.
+func (l ledger) best(better func(a, b sets) bool) (sets, bool) {
+	return reckon.Choice[sets]{Better: better}.Of(l.produce(), l.suffices)
 }
 
-// best returns the best good plan; false, if there is none.
-func (l ledger) best(c choice) (sets, bool) {
-	var best sets
-	found := false
-	for days := range l.produce() {
-		if l.need(days) <= l.Stock && (!found || c.better(days, best)) {
-			best, found = days, true
-		}
-	}
-	return best, found
-}
+// suffices reports whether the stock falls short at no work of a plan.
+func (l ledger) suffices(days sets) bool { return l.need(days) <= l.Stock }
 
 // takesFewer reports whether a plan takes fewer feet than another one, or as many and comes before it.
 func (l ledger) takesFewer(a, b sets) bool {
@@ -127,7 +118,7 @@ func (l ledger) needsLess(a, b sets) bool { return l.need(a) < l.need(b) }
 
 // fewest returns how many feet the best good plan takes; more than any, if there is none.
 func (l ledger) fewest() int {
-	best, found := l.best(choice{l.takesFewer})
+	best, found := l.best(l.takesFewer)
 	if !found {
 		return math.MaxInt
 	}

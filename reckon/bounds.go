@@ -1,4 +1,4 @@
-// Package reckon has what several layers calculate with: bounds of numbers, spans, sets, lists of a few of several things, and places of a chain. It is no layer: it depends on api alone, and keeps nothing.
+// Package reckon has what several layers calculate with: bounds of numbers, spans, sets, lists of a few of several things, the best of them, and places of a chain. It is no layer: it depends on api alone, and keeps nothing.
 package reckon
 
 // Bound is a number, and between which two others it must lie.

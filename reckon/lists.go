@@ -43,7 +43,7 @@ func Fewest(n int, enough func(list []int) bool) ([]int, bool) {
 	return nil, false
 }
 
-// Lists produces all strictly increasing lists of numbers below n: the shorter ones first, of each length in their order. Each is overwritten by the next one.
+// Lists produces all strictly increasing lists of numbers below n: the shorter ones first, of each length in their order.
 func Lists(n int) iter.Seq[[]int] {
 	return func(yield func([]int) bool) {
 		for size := range n + 1 {
@@ -63,7 +63,7 @@ func lists(n, size int) iter.Seq[[]int] {
 		var add func(from int) bool
 		add = func(from int) bool {
 			if len(list) == size {
-				return yield(list[:size:size])
+				return yield(slices.Clone(list)[:size:size])
 			}
 			for more := range n - from {
 				list = append(list, from+more)

@@ -97,6 +97,13 @@ func TestSets(t *testing.T) {
 				t.Errorf("Has %d, %d: %v", set, n, has)
 			}
 		}
+		if l := reckon.Members(set); !slices.Equal(l, members) || cap(l) != len(l) {
+			t.Errorf("Members %d: %v", set, l)
+		}
+		slices.Reverse(members)
+		if n := reckon.Set(append(members, members...)...); n != set {
+			t.Errorf("Set %v: %d", members, n)
+		}
 	}
 	for n, want := range []int{0, 1, 3, 7, 15} {
 		if set := reckon.Full(n); set != want {
@@ -133,7 +140,7 @@ func TestLists(t *testing.T) {
 	}{{0, [][]int{{}}}, {1, [][]int{{}, {0}}}, {3, [][]int{{}, {0}, {1}, {2}, {0, 1}, {0, 2}, {1, 2}, {0, 1, 2}}}} {
 		var all [][]int
 		for l := range reckon.Lists(x.n) {
-			all = append(all, slices.Clone(l))
+			all = append(all, l) // each is new memory
 		}
 		if !slices.EqualFunc(all, x.want, slices.Equal[[]int]) {
 			t.Errorf("%d: %v", i, all)
@@ -145,6 +152,22 @@ func TestLists(t *testing.T) {
 		}
 		if slices.Equal(l, []int{1}) {
 			break
+		}
+	}
+}
+
+func TestChoice(t *testing.T) {
+	longer := reckon.Choice[string]{Better: func(a, b string) bool { return len(a) > len(b) }}
+	for i, x := range []struct {
+		all   []string
+		want  string
+		found bool
+	}{
+		{nil, "", false}, {[]string{"no"}, "", false}, {[]string{"no", "a"}, "a", true}, {[]string{"a", "no", "bcd", "no way"}, "bcd", true}, {[]string{"a", "bc", "de", "f"}, "bc", true}, {[]string{""}, "", true},
+	} {
+		best, found := longer.Of(slices.Values(x.all), func(s string) bool { return s == "" || s[0] != 'n' })
+		if best != x.want || found != x.found {
+			t.Errorf("%d: %q, %v", i, best, found)
 		}
 	}
 }
